@@ -5,6 +5,7 @@ import (
 	"sort"
 
 	"linkboy/api"
+	"linkboy/whole"
 )
 
 const (
@@ -20,7 +21,7 @@ func Cos(a int) (api.Encl, api.Errno) { return CosOf(api.Encl{Lo: a, Hi: a}) }
 
 // SinOf returns the least enclosure of the sines of all angles of an enclosure, in hundred-millionths.
 func SinOf(a api.Encl) (api.Encl, api.Errno) {
-	if !isWithin(a, -api.MaxAngle, api.MaxAngle) {
+	if !whole.IsWithin(a, -api.MaxAngle, api.MaxAngle) {
 		return api.Encl{}, api.ErrRange
 	}
 	return sines(a.Lo, a.Hi), api.OK
@@ -28,7 +29,7 @@ func SinOf(a api.Encl) (api.Encl, api.Errno) {
 
 // CosOf returns the least enclosure of the cosines of all angles of an enclosure, in hundred-millionths.
 func CosOf(a api.Encl) (api.Encl, api.Errno) {
-	if !isWithin(a, -api.MaxAngle, api.MaxAngle) {
+	if !whole.IsWithin(a, -api.MaxAngle, api.MaxAngle) {
 		return api.Encl{}, api.ErrRange
 	}
 	return sines(a.Lo+right, a.Hi+right), api.OK
@@ -45,20 +46,15 @@ func Arccos(x api.Encl) (api.Encl, api.Errno) {
 
 // Arcsin returns the least enclosure of the angles from -90 to 90 degrees whose sine is in x, in millionths of a degree.
 func Arcsin(x api.Encl) (api.Encl, api.Errno) {
-	if !isWithin(x, -api.One, api.One) {
+	if !whole.IsWithin(x, -api.One, api.One) {
 		return api.Encl{}, api.ErrRange
 	}
 	return api.Encl{Lo: -arcAbove(-x.Lo), Hi: arcAbove(x.Hi)}, api.OK
 }
 
-// isWithin reports whether an enclosure is valid and has only numbers from least to most.
-func isWithin(x api.Encl, least, most int) bool {
-	return least <= x.Lo && x.Lo <= x.Hi && x.Hi <= most
-}
-
 // sines encloses the sines of all angles from lo to hi.
 func sines(lo, hi int) api.Encl {
-	all := join(sine(lo), sine(hi))
+	all := whole.Join(sine(lo), sine(hi))
 	if passes(lo, hi, right) {
 		all.Hi = api.One
 	}

@@ -6,6 +6,7 @@ import (
 	"testing"
 
 	"linkboy/api"
+	"linkboy/whole"
 )
 
 const degree = api.Degree
@@ -141,10 +142,10 @@ func TestSinOfAndCosOfAreLeast(t *testing.T) {
 // spanOracle returns the least enclosure of the sines of angles, looking at each multiple of a right angle in between.
 func spanOracle(t *testing.T, a api.Encl) api.Encl {
 	t.Helper()
-	all := join(oracle(t, a.Lo), oracle(t, a.Hi))
+	all := whole.Join(oracle(t, a.Lo), oracle(t, a.Hi))
 	for k := -50; k <= 50; k++ {
 		if m := k * right; a.Lo <= m && m <= a.Hi {
-			all = join(all, oracle(t, m))
+			all = whole.Join(all, oracle(t, m))
 		}
 	}
 	return all

@@ -7,6 +7,7 @@ import (
 	"testing"
 
 	"linkboy/api"
+	"linkboy/whole"
 )
 
 // operation is Plus, Minus, Times or Over.
@@ -163,7 +164,7 @@ func exact(x, y api.Encl, do func(z, a, b *big.Rat) *big.Rat) api.Encl {
 			all = append(all, encl(below, above))
 		}
 	}
-	return join(all[0], all[1:]...)
+	return whole.Join(all[0], all[1:]...)
 }
 
 // randomEncl returns a valid enclosure of values, of numbers of any size.

@@ -6,6 +6,7 @@ import (
 	"testing"
 
 	"linkboy/api"
+	"linkboy/whole"
 )
 
 // must returns a function that fails the test if there is an error.
@@ -34,7 +35,7 @@ func TestCircle(t *testing.T) {
 		if sin.Hi-sin.Lo > 1 || sin.Hi < sin.Lo || cos.Hi-cos.Lo > 1 || cos.Hi < cos.Lo {
 			t.Errorf("Sin, Cos(%d) = %v, %v", a, sin, cos)
 		}
-		if squares := ok(Plus(ok(Times(sin, sin)), ok(Times(cos, cos)))); !holds(squares, only(api.One)) {
+		if squares := ok(Plus(ok(Times(sin, sin)), ok(Times(cos, cos)))); !holds(squares, whole.Only(api.One)) {
 			t.Errorf("the squares of %d: %v", a, squares)
 		}
 		if a+turn <= api.MaxAngle && (ok(Sin(a+turn)) != sin || ok(Cos(a+turn)) != cos) {
@@ -87,10 +88,10 @@ func TestFractions(t *testing.T) {
 		x, y := randomEncl(r), randomEncl(r)
 		a := x.Lo + r.Intn(x.Hi-x.Lo+1)
 		b := y.Lo + r.Intn(y.Hi-y.Lo+1)
-		if z, e := Times(x, y); e == api.OK && !holds(z, quotient(a*b, api.One)) {
+		if z, e := Times(x, y); e == api.OK && !holds(z, whole.Quotient(a*b, api.One)) {
 			t.Errorf("Times(%v, %v) = %v does not hold that of %d and %d", x, y, z, a, b)
 		}
-		if z, e := Over(x, y); e == api.OK && !holds(z, quotient(a*api.One, b)) {
+		if z, e := Over(x, y); e == api.OK && !holds(z, whole.Quotient(a*api.One, b)) {
 			t.Errorf("Over(%v, %v) = %v does not hold that of %d and %d", x, y, z, a, b)
 		}
 	}
@@ -105,21 +106,21 @@ func TestBack(t *testing.T) {
 		if i >= 8 {
 			a = r.Intn(2*right + 1)
 		}
-		if back := ok(Arccos(ok(Cos(a)))); !holds(back, only(a)) {
+		if back := ok(Arccos(ok(Cos(a)))); !holds(back, whole.Only(a)) {
 			t.Errorf("Arccos of Cos of %d: %v", a, back)
 		}
-		if back := ok(Arcsin(ok(Sin(a - right)))); !holds(back, only(a-right)) {
+		if back := ok(Arcsin(ok(Sin(a - right)))); !holds(back, whole.Only(a-right)) {
 			t.Errorf("Arcsin of Sin of %d: %v", a-right, back)
 		}
 		x := r.Intn(2*api.One+1) - api.One
 		if i < 3 {
 			x = (i - 1) * api.One
 		}
-		arc := ok(Arccos(only(x)))
+		arc := ok(Arccos(whole.Only(x)))
 		if ok(Cos(arc.Hi)).Lo > x || ok(Cos(arc.Lo)).Hi < x {
 			t.Errorf("Cos of Arccos of %d", x)
 		}
-		arc = ok(Arcsin(only(x)))
+		arc = ok(Arcsin(whole.Only(x)))
 		if ok(Sin(arc.Lo)).Lo > x || ok(Sin(arc.Hi)).Hi < x {
 			t.Errorf("Sin of Arcsin of %d", x)
 		}
@@ -135,12 +136,12 @@ func TestSquareOfRoot(t *testing.T) {
 		if i < 3 {
 			v = []int{0, 1, api.MaxValue - 11}[i]
 		}
-		root := ok(Root(only(v)))
+		root := ok(Root(whole.Only(v)))
 		square, e := Times(root, root)
 		if e == api.ErrRange && v > api.MaxValue-12 { // the greatest squares are not values
 			continue
 		}
-		if e != api.OK || !holds(square, only(v)) {
+		if e != api.OK || !holds(square, whole.Only(v)) {
 			t.Errorf("the square of the root of %d: %v, %d", v, square, e)
 		}
 	}

@@ -4,6 +4,7 @@ import (
 	"math/bits"
 
 	"linkboy/api"
+	"linkboy/whole"
 )
 
 const (
@@ -34,11 +35,11 @@ func mirrored(a int) int {
 func sineToRight(a int) api.Encl {
 	switch a { // by Niven's theorem no other sines of these angles are fractions
 	case 0:
-		return only(0)
+		return whole.Only(0)
 	case right / 3:
-		return only(api.One / 2)
+		return whole.Only(api.One / 2)
 	case right:
-		return only(api.One)
+		return whole.Only(api.One)
 	}
 	below := hundredMillionths(series(uint64(a)))
 	return api.Encl{Lo: below, Hi: below + 1}

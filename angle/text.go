@@ -5,6 +5,7 @@ import (
 	"strings"
 
 	"linkboy/api"
+	"linkboy/words"
 )
 
 const (
@@ -86,7 +87,7 @@ func letter(axis, sign int) string {
 // readSize reads degrees with decimals, in millionths.
 func readSize(s string) (size int, isNumber bool) {
 	whole, part, hasPoint := strings.Cut(s, ".")
-	if !isDigits(whole, wholeDigits) || hasPoint && !isDigits(part, decimals) {
+	if !words.IsDigits(whole, wholeDigits) || hasPoint && !words.IsDigits(part, decimals) {
 		return 0, false
 	}
 	part += strings.Repeat("0", decimals-len(part))
@@ -105,14 +106,4 @@ func writeSize(size int) string {
 	// with one degree more it has all its zeros in front
 	part := strconv.Itoa(size%api.Degree + api.Degree)[1:]
 	return whole + "." + strings.TrimRight(part, "0")
-}
-
-// isDigits reports whether s is from 1 to most decimal digits.
-func isDigits(s string, most int) bool {
-	for i := range len(s) {
-		if s[i] < '0' || s[i] > '9' {
-			return false
-		}
-	}
-	return len(s) >= 1 && len(s) <= most
 }

@@ -1,0 +1,150 @@
+package lamp
+
+import (
+	"slices"
+
+	"linkboy/api"
+)
+
+// Parts of a catalogue in which Check finds an error.
+const (
+	partAll    = 0
+	partTables = 1
+	partLamps  = 2
+)
+
+// Check checks a catalogue.
+func Check(c api.LmCatalog) (part, at int, e api.Errno) {
+	if len(c.Tables) > api.MaxTables || len(c.Lamps) > api.MaxLamps {
+		return partAll, 0, api.ErrLong
+	}
+	for at, t := range c.Tables {
+		if e := tableError(t, c.Tables[:at]); e != api.OK {
+			return partTables, at, e
+		}
+	}
+	for at, l := range c.Lamps {
+		if e := lampError(l, c.Lamps[:at], len(c.Tables)); e != api.OK {
+			return partLamps, at, e
+		}
+	}
+	return 0, 0, api.OK
+}
+
+// errorOf returns the error of a catalogue, or of an index of its tables or lamps, of which there are so many.
+func errorOf(c api.LmCatalog, index, count int) api.Errno {
+	if _, _, e := Check(c); e != api.OK {
+		return e
+	}
+	if !isFrom(index, 0, count-1) {
+		return api.ErrNone
+	}
+	return api.OK
+}
+
+// tableError returns the first error of a table that comes after some others.
+func tableError(t api.LmTable, before []api.LmTable) api.Errno {
+	switch {
+	case !Name(t.Name):
+		return api.ErrForm
+	case tableOf(before, t.Name) >= 0:
+		return api.ErrTwice
+	case !isFrom(len(t.Us), 2, api.MaxGrid) || !isFrom(len(t.Vs), 2, api.MaxGrid):
+		return api.ErrLong
+	case !areFrom(t.Us, -api.MaxTan, api.MaxTan) || !areFrom(t.Vs, -api.MaxTan, api.MaxTan):
+		return api.ErrRange
+	case !ascend(t.Us) || !ascend(t.Vs):
+		return api.ErrArg
+	case !hasShape(t):
+		return api.ErrForm
+	case !areIntensities(t):
+		return api.ErrRange
+	}
+	return api.OK
+}
+
+// lampError returns the first error of a lamp that comes after some others, in a catalogue with so many tables.
+func lampError(l api.LmLamp, before []api.LmLamp, tables int) api.Errno {
+	switch {
+	case !Name(l.Name):
+		return api.ErrForm
+	case lampOf(before, l.Name) >= 0:
+		return api.ErrTwice
+	case !isFrom(l.Table, 0, tables-1):
+		return api.ErrNone
+	case !isFrom(l.Kind, api.LmLed, api.LmMetal):
+		return api.ErrArg
+	case !areInRange(l):
+		return api.ErrRange
+	case l.Kind == api.LmLed && l.Restrike != 0:
+		return api.ErrArg
+	}
+	return api.OK
+}
+
+// hasShape reports whether a table has a value for each pair of tangents.
+func hasShape(t api.LmTable) bool {
+	if !areAsMany(t.Values, t.Us) {
+		return false
+	}
+	for _, row := range t.Values {
+		if !areAsMany(row, t.Vs) {
+			return false
+		}
+	}
+	return true
+}
+
+// areIntensities reports whether all intensities of a table are in their range.
+func areIntensities(t api.LmTable) bool {
+	for _, row := range t.Values {
+		if !areFrom(row, 0, api.MaxIntensity) {
+			return false
+		}
+	}
+	return areFrom([]int{t.Side, t.Sky}, 0, api.MaxIntensity)
+}
+
+// areInRange reports whether all numbers of a lamp are in their ranges.
+func areInRange(l api.LmLamp) bool {
+	for _, f := range fields() {
+		if !f.isInRange(&l) {
+			return false
+		}
+	}
+	return l.Standing <= l.Power
+}
+
+// tableOf returns the index of the first table with a name, or -1.
+func tableOf(tables []api.LmTable, name string) int {
+	return slices.IndexFunc(tables, func(t api.LmTable) bool { return t.Name == name })
+}
+
+// lampOf returns the index of the first lamp with a name, or -1.
+func lampOf(lamps []api.LmLamp, name string) int {
+	return slices.IndexFunc(lamps, func(l api.LmLamp) bool { return l.Name == name })
+}
+
+// areAsMany reports whether two lists have the same number of elements.
+func areAsMany[A, B any](list []A, other []B) bool { return len(list) == len(other) }
+
+// ascend reports whether numbers ascend, each once.
+func ascend(numbers []int) bool {
+	for i := 1; i < len(numbers); i++ {
+		if numbers[i-1] >= numbers[i] {
+			return false
+		}
+	}
+	return true
+}
+
+func areFrom(numbers []int, least, most int) bool {
+	for _, n := range numbers {
+		if !isFrom(n, least, most) {
+			return false
+		}
+	}
+	return true
+}
+
+func isFrom(n, least, most int) bool { return least <= n && n <= most }
