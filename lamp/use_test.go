@@ -171,7 +171,7 @@ func TestParseOfAnyText(t *testing.T) {
 
 // P2.13: no list of a result shares its memory with another one.
 func TestListsOfAResultAreApart(t *testing.T) {
-	c, _, _ := Parse(exampleText + "")
+	c, _, _ := Parse(exampleText)
 	other, _, _ := Parse(exampleText)
 	table := &c.Tables[0]
 	for _, list := range [][]int{table.Us, table.Vs, table.Values[0], table.Values[1]} {
