@@ -18,13 +18,13 @@ func Check(c api.LmCatalog) (part, at int, e api.Errno) {
 	if len(c.Tables) > api.MaxTables || len(c.Lamps) > api.MaxLamps {
 		return partAll, 0, api.ErrLong
 	}
-	for at, t := range c.Tables {
-		if e := tableError(t, c.Tables[:at]); e != api.OK {
+	for at := range c.Tables {
+		if e := tableError(c, at); e != api.OK {
 			return partTables, at, e
 		}
 	}
-	for at, l := range c.Lamps {
-		if e := lampError(l, c.Lamps[:at], len(c.Tables)); e != api.OK {
+	for at := range c.Lamps {
+		if e := lampError(c, at); e != api.OK {
 			return partLamps, at, e
 		}
 	}
@@ -42,12 +42,13 @@ func errorOf(c api.LmCatalog, index, count int) api.Errno {
 	return api.OK
 }
 
-// tableError returns the first error of a table that comes after some others.
-func tableError(t api.LmTable, before []api.LmTable) api.Errno {
+// tableError returns the first error of a table.
+func tableError(c api.LmCatalog, at int) api.Errno {
+	t := &c.Tables[at]
 	switch {
 	case !Name(t.Name):
 		return api.ErrForm
-	case tableOf(before, t.Name) >= 0:
+	case tableOf(c.Tables, t.Name) < at:
 		return api.ErrTwice
 	case !isFrom(len(t.Us), 2, api.MaxGrid) || !isFrom(len(t.Vs), 2, api.MaxGrid):
 		return api.ErrLong
@@ -63,14 +64,15 @@ func tableError(t api.LmTable, before []api.LmTable) api.Errno {
 	return api.OK
 }
 
-// lampError returns the first error of a lamp that comes after some others, in a catalogue with so many tables.
-func lampError(l api.LmLamp, before []api.LmLamp, tables int) api.Errno {
+// lampError returns the first error of a lamp.
+func lampError(c api.LmCatalog, at int) api.Errno {
+	l := &c.Lamps[at]
 	switch {
 	case !Name(l.Name):
 		return api.ErrForm
-	case lampOf(before, l.Name) >= 0:
+	case lampOf(c.Lamps, l.Name) < at:
 		return api.ErrTwice
-	case !isFrom(l.Table, 0, tables-1):
+	case !isFrom(l.Table, 0, len(c.Tables)-1):
 		return api.ErrNone
 	case !isFrom(l.Kind, api.LmLed, api.LmMetal):
 		return api.ErrArg
@@ -83,7 +85,7 @@ func lampError(l api.LmLamp, before []api.LmLamp, tables int) api.Errno {
 }
 
 // hasShape reports whether a table has a value for each pair of tangents.
-func hasShape(t api.LmTable) bool {
+func hasShape(t *api.LmTable) bool {
 	if !areAsMany(t.Values, t.Us) {
 		return false
 	}
@@ -96,19 +98,19 @@ func hasShape(t api.LmTable) bool {
 }
 
 // areIntensities reports whether all intensities of a table are in their range.
-func areIntensities(t api.LmTable) bool {
+func areIntensities(t *api.LmTable) bool {
 	for _, row := range t.Values {
 		if !areFrom(row, 0, api.MaxIntensity) {
 			return false
 		}
 	}
-	return areFrom([]int{t.Side, t.Sky}, 0, api.MaxIntensity)
+	return isFrom(t.Side, 0, api.MaxIntensity) && isFrom(t.Sky, 0, api.MaxIntensity)
 }
 
 // areInRange reports whether all numbers of a lamp are in their ranges.
-func areInRange(l api.LmLamp) bool {
+func areInRange(l *api.LmLamp) bool {
 	for _, f := range fields() {
-		if !f.isInRange(&l) {
+		if !f.isInRange(l) {
 			return false
 		}
 	}

@@ -24,62 +24,54 @@ func kindOf(word string) (kind int, isKind bool) {
 	return 0, false
 }
 
-// field is a number, or an enclosure, of a lamp: its word, its range, and where its number, or both of its ends, are.
+// field is a number, or an enclosure, of a lamp: its word, its range, and where the number, or both ends, are (a number has no hi).
 type field struct {
 	word        string
 	least, most int
-	numbers     func(l *api.LmLamp) []*int
+	ends        func(l *api.LmLamp) (lo, hi *int)
 }
 
 // fields returns the fields of a lamp, in the order of its line.
-func fields() []field {
-	return []field{
-		{"lumens", 1, api.MaxLumens, func(l *api.LmLamp) []*int { return []*int{&l.Lumens} }},
-		{"power", 1, api.MaxPower, func(l *api.LmLamp) []*int { return []*int{&l.Power} }},
-		{"standing", 0, api.MaxPower, func(l *api.LmLamp) []*int { return []*int{&l.Standing} }},
-		{"tolerance", 0, api.All, func(l *api.LmLamp) []*int { return []*int{&l.Tolerance} }},
-		{"ageing", 0, api.All, func(l *api.LmLamp) []*int { return []*int{&l.Ageing.Lo, &l.Ageing.Hi} }},
-		{"dirt", 0, api.All, func(l *api.LmLamp) []*int { return []*int{&l.Dirt.Lo, &l.Dirt.Hi} }},
-		{"life", 1, api.MaxHours, func(l *api.LmLamp) []*int { return []*int{&l.Life} }},
-		{"dim", 0, api.All, func(l *api.LmLamp) []*int { return []*int{&l.Dim} }},
-		{"restrike", 0, api.MaxRestrike, func(l *api.LmLamp) []*int { return []*int{&l.Restrike} }},
+func fields() [9]field {
+	return [...]field{
+		{"lumens", 1, api.MaxLumens, func(l *api.LmLamp) (lo, hi *int) { return &l.Lumens, nil }},
+		{"power", 1, api.MaxPower, func(l *api.LmLamp) (lo, hi *int) { return &l.Power, nil }},
+		{"standing", 0, api.MaxPower, func(l *api.LmLamp) (lo, hi *int) { return &l.Standing, nil }},
+		{"tolerance", 0, api.All, func(l *api.LmLamp) (lo, hi *int) { return &l.Tolerance, nil }},
+		{"ageing", 0, api.All, func(l *api.LmLamp) (lo, hi *int) { return &l.Ageing.Lo, &l.Ageing.Hi }},
+		{"dirt", 0, api.All, func(l *api.LmLamp) (lo, hi *int) { return &l.Dirt.Lo, &l.Dirt.Hi }},
+		{"life", 1, api.MaxHours, func(l *api.LmLamp) (lo, hi *int) { return &l.Life, nil }},
+		{"dim", 0, api.All, func(l *api.LmLamp) (lo, hi *int) { return &l.Dim, nil }},
+		{"restrike", 0, api.MaxRestrike, func(l *api.LmLamp) (lo, hi *int) { return &l.Restrike, nil }},
 	}
 }
 
 // isInRange reports whether what a lamp has in a field is in its range; the Lo of an enclosure is at most its Hi.
 func (f field) isInRange(l *api.LmLamp) bool {
-	least := f.least
-	for _, n := range f.numbers(l) {
-		if !isFrom(*n, least, f.most) {
-			return false
-		}
-		least = *n
-	}
-	return true
+	lo, hi := f.ends(l)
+	return isFrom(*lo, f.least, f.most) && (hi == nil || isFrom(*hi, *lo, f.most))
 }
 
 // text returns what a lamp has in a field, as its line has it.
 func (f field) text(l *api.LmLamp) string {
-	var ends []string
-	for _, n := range f.numbers(l) {
-		ends = append(ends, strconv.Itoa(*n))
+	lo, hi := f.ends(l)
+	if hi == nil {
+		return strconv.Itoa(*lo)
 	}
-	return strings.Join(ends, dots)
+	return strconv.Itoa(*lo) + dots + strconv.Itoa(*hi)
 }
 
 // read puts what a line has in a field into a lamp, or reports that it is not as it must be.
 func (f field) read(l *api.LmLamp, text string) bool {
-	ends := strings.Split(text, dots)
-	numbers := f.numbers(l)
-	if !areAsMany(ends, numbers) {
-		return false
+	lo, hi := f.ends(l)
+	if hi == nil {
+		return readNumber(lo, text)
 	}
-	for i, end := range ends {
-		n, isNumber := words.Number(end)
-		if !isNumber {
-			return false
-		}
-		*numbers[i] = n
-	}
-	return true
+	first, second, isBoth := strings.Cut(text, dots)
+	return isBoth && readNumber(lo, first) && readNumber(hi, second)
+}
+
+func readNumber(n *int, text string) (isNumber bool) {
+	*n, isNumber = words.Number(text)
+	return isNumber
 }

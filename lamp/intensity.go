@@ -22,13 +22,21 @@ func Over(c api.LmCatalog, table int, r api.LmRect, h int) (api.Encl, api.Errno)
 	if e := errorOf(c, table, len(c.Tables)); e != api.OK {
 		return api.Encl{}, e
 	}
-	if !isFrom(h, 1, api.MaxLmHeight) || !areFrom([]int{r.X0, r.X1, r.Y0, r.Y1}, -api.MaxOffset, api.MaxOffset) {
-		return api.Encl{}, api.ErrRange
-	}
-	if r.X0 > r.X1 || r.Y0 > r.Y1 {
-		return api.Encl{}, api.ErrArg
+	if e := rectError(r, h); e != api.OK {
+		return api.Encl{}, e
 	}
 	return over(c.Tables[table], r, h), api.OK
+}
+
+// rectError returns the error of a rectangle at a depth.
+func rectError(r api.LmRect, h int) api.Errno {
+	switch {
+	case !isFrom(h, 1, api.MaxLmHeight) || !areFrom([]int{r.X0, r.X1, r.Y0, r.Y1}, -api.MaxOffset, api.MaxOffset):
+		return api.ErrRange
+	case r.X0 > r.X1 || r.Y0 > r.Y1:
+		return api.ErrArg
+	}
+	return api.OK
 }
 
 // over encloses the intensities in the directions of all points of a rectangle. All tangents are taken h times, which makes them integers.
