@@ -4,6 +4,7 @@ import (
 	"slices"
 
 	"linkboy/api"
+	"linkboy/whole"
 )
 
 // Parts of a catalogue in which Check finds an error.
@@ -36,7 +37,7 @@ func errorOf(c api.LmCatalog, index, count int) api.Errno {
 	if _, _, e := Check(c); e != api.OK {
 		return e
 	}
-	if !isFrom(index, 0, count-1) {
+	if !whole.IsFrom(index, 0, count-1) {
 		return api.ErrNone
 	}
 	return api.OK
@@ -50,9 +51,9 @@ func tableError(c api.LmCatalog, at int) api.Errno {
 		return api.ErrForm
 	case tableOf(c.Tables, t.Name) < at:
 		return api.ErrTwice
-	case !isFrom(len(t.Us), 2, api.MaxGrid) || !isFrom(len(t.Vs), 2, api.MaxGrid):
+	case !whole.IsFrom(len(t.Us), 2, api.MaxGrid) || !whole.IsFrom(len(t.Vs), 2, api.MaxGrid):
 		return api.ErrLong
-	case !areFrom(t.Us, -api.MaxTan, api.MaxTan) || !areFrom(t.Vs, -api.MaxTan, api.MaxTan):
+	case !whole.AreFrom(t.Us, -api.MaxTan, api.MaxTan) || !whole.AreFrom(t.Vs, -api.MaxTan, api.MaxTan):
 		return api.ErrRange
 	case !ascend(t.Us) || !ascend(t.Vs):
 		return api.ErrArg
@@ -72,9 +73,9 @@ func lampError(c api.LmCatalog, at int) api.Errno {
 		return api.ErrForm
 	case lampOf(c.Lamps, l.Name) < at:
 		return api.ErrTwice
-	case !isFrom(l.Table, 0, len(c.Tables)-1):
+	case !whole.IsFrom(l.Table, 0, len(c.Tables)-1):
 		return api.ErrNone
-	case !isFrom(l.Kind, api.LmLed, api.LmMetal):
+	case !whole.IsFrom(l.Kind, api.LmLed, api.LmMetal):
 		return api.ErrArg
 	case !areInRange(l):
 		return api.ErrRange
@@ -100,11 +101,11 @@ func hasShape(t *api.LmTable) bool {
 // areIntensities reports whether all intensities of a table are in their range.
 func areIntensities(t *api.LmTable) bool {
 	for _, row := range t.Values {
-		if !areFrom(row, 0, api.MaxIntensity) {
+		if !whole.AreFrom(row, 0, api.MaxIntensity) {
 			return false
 		}
 	}
-	return isFrom(t.Side, 0, api.MaxIntensity) && isFrom(t.Sky, 0, api.MaxIntensity)
+	return whole.IsFrom(t.Side, 0, api.MaxIntensity) && whole.IsFrom(t.Sky, 0, api.MaxIntensity)
 }
 
 // areInRange reports whether all numbers of a lamp are in their ranges.
@@ -139,14 +140,3 @@ func ascend(numbers []int) bool {
 	}
 	return true
 }
-
-func areFrom(numbers []int, least, most int) bool {
-	for _, n := range numbers {
-		if !isFrom(n, least, most) {
-			return false
-		}
-	}
-	return true
-}
-
-func isFrom(n, least, most int) bool { return least <= n && n <= most }

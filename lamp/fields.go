@@ -5,6 +5,7 @@ import (
 	"strings"
 
 	"linkboy/api"
+	"linkboy/whole"
 	"linkboy/words"
 )
 
@@ -49,7 +50,7 @@ func fields() [9]field {
 // isInRange reports whether what a lamp has in a field is in its range; the Lo of an enclosure is at most its Hi.
 func (f field) isInRange(l *api.LmLamp) bool {
 	lo, hi := f.ends(l)
-	return isFrom(*lo, f.least, f.most) && (hi == nil || isFrom(*hi, *lo, f.most))
+	return whole.IsFrom(*lo, f.least, f.most) && (hi == nil || whole.IsFrom(*hi, *lo, f.most))
 }
 
 // text returns what a lamp has in a field, as its line has it.

@@ -31,7 +31,7 @@ func Over(c api.LmCatalog, table int, r api.LmRect, h int) (api.Encl, api.Errno)
 // rectError returns the error of a rectangle at a depth.
 func rectError(r api.LmRect, h int) api.Errno {
 	switch {
-	case !isFrom(h, 1, api.MaxLmHeight) || !areFrom([]int{r.X0, r.X1, r.Y0, r.Y1}, -api.MaxOffset, api.MaxOffset):
+	case !whole.IsFrom(h, 1, api.MaxLmHeight) || !whole.AreFrom([]int{r.X0, r.X1, r.Y0, r.Y1}, -api.MaxOffset, api.MaxOffset):
 		return api.ErrRange
 	case r.X0 > r.X1 || r.Y0 > r.Y1:
 		return api.ErrArg
@@ -70,7 +70,7 @@ func (s span) stops(tangents []int, h int) []int {
 		}
 	}
 	for _, t := range tangents {
-		if isFrom(t*h, s.from, s.to) {
+		if whole.IsFrom(t*h, s.from, s.to) {
 			all = append(all, t*h)
 		}
 	}

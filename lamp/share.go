@@ -10,7 +10,7 @@ func Share(c api.LmCatalog, table, split int) (api.Encl, api.Errno) {
 	if e := errorOf(c, table, len(c.Tables)); e != api.OK {
 		return api.Encl{}, e
 	}
-	if !isFrom(split, 1, api.MaxSplit) {
+	if !whole.IsFrom(split, 1, api.MaxSplit) {
 		return api.Encl{}, api.ErrRange
 	}
 	var millionths api.Encl
@@ -61,7 +61,7 @@ func partShare(values api.Encl, across, along span) api.Encl {
 // squares encloses the squares of all tangents of a span.
 func (s span) squares() api.Encl {
 	all := whole.Join(whole.Only(s.from*s.from), whole.Only(s.to*s.to))
-	if isFrom(0, s.from, s.to) {
+	if whole.IsFrom(0, s.from, s.to) {
 		all.Lo = 0
 	}
 	return all

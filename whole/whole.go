@@ -25,6 +25,19 @@ func Up(a, b int) int {
 	return q
 }
 
+// IsFrom reports whether a number is from least to most.
+func IsFrom(n, least, most int) bool { return least <= n && n <= most }
+
+// AreFrom reports whether all numbers of a list are from least to most.
+func AreFrom(numbers []int, least, most int) bool {
+	for _, n := range numbers {
+		if !IsFrom(n, least, most) {
+			return false
+		}
+	}
+	return true
+}
+
 // Only returns the enclosure of a single number.
 func Only(a int) api.Encl { return api.Encl{Lo: a, Hi: a} }
 

@@ -45,6 +45,23 @@ func TestEnclosures(t *testing.T) {
 	}
 }
 
+func TestRanges(t *testing.T) {
+	for _, c := range []struct {
+		n    int
+		want bool
+	}{{-1, true}, {0, true}, {2, true}, {-2, false}, {3, false}, {math.MinInt, false}, {math.MaxInt, false}} {
+		if got := IsFrom(c.n, -1, 2); got != c.want {
+			t.Errorf("IsFrom(%d) = %v", c.n, got)
+		}
+		if got := AreFrom([]int{0, c.n, 1}, -1, 2); got != c.want {
+			t.Errorf("AreFrom with %d = %v", c.n, got)
+		}
+	}
+	if !AreFrom(nil, 1, 0) {
+		t.Error("a number of no list is not in the range")
+	}
+}
+
 func TestRoot(t *testing.T) {
 	numbers := []int{0, 1, 2, 3, 4, 8, 9, 10, 1 << 60, 1<<60 - 1, 1 << 62, 1<<62 - 1, 1<<62 - 1<<31}
 	r := rand.New(rand.NewSource(1))

@@ -1,0 +1,172 @@
+package road
+
+import (
+	"slices"
+
+	"linkboy/api"
+	"linkboy/whole"
+	"linkboy/words"
+)
+
+// Parts of a scene in which Check finds an error.
+const (
+	partAll     = 0
+	partRoads   = 1
+	partTrees   = 2
+	partFronts  = 3
+	partColumns = 4
+)
+
+// Check returns the part, the index in it and the error of a scene.
+func Check(s api.RdScene) (part, at int, e api.Errno) {
+	if len(s.Roads) > api.MaxRdRoads || len(s.Trees) > api.MaxRdTrees || len(s.Fronts) > api.MaxRdFronts || len(s.Columns) > api.MaxRdColumns {
+		return partAll, 0, api.ErrLong
+	}
+	if at, e := firstError(s.Roads, roadError); e != api.OK {
+		return partRoads, at, e
+	}
+	if at, e := firstError(s.Trees, treeError); e != api.OK {
+		return partTrees, at, e
+	}
+	if at, e := firstError(s.Fronts, frontError); e != api.OK {
+		return partFronts, at, e
+	}
+	if at, e := firstError(s.Columns, columnError); e != api.OK {
+		return partColumns, at, e
+	}
+	return 0, 0, api.OK
+}
+
+// firstError returns the index of the first thing of a list that has an error, and this error. Whether there is one may depend on the things before.
+func firstError[T any](things []T, errorOf func(before []T, thing *T) api.Errno) (at int, e api.Errno) {
+	for at := range things {
+		if e := errorOf(things[:at], &things[at]); e != api.OK {
+			return at, e
+		}
+	}
+	return 0, api.OK
+}
+
+// roadError returns the first error of a road.
+func roadError(before []api.RdRoad, r *api.RdRoad) api.Errno {
+	switch {
+	case !words.IsName(r.Name):
+		return api.ErrForm
+	case slices.ContainsFunc(before, func(other api.RdRoad) bool { return other.Name == r.Name }):
+		return api.ErrTwice
+	case !whole.IsFrom(r.Kind, api.RdCarriage, api.RdCrossing):
+		return api.ErrArg
+	case len(r.Points) < 2:
+		return api.ErrNone
+	case len(r.Points) > api.MaxRdPoints:
+		return api.ErrLong
+	case !arePlaces(r.Points...) || !whole.IsFrom(r.Width, api.MinRdWidth, api.MaxRdWidth):
+		return api.ErrRange
+	case hasEmptyPiece(r) || r.Kind == api.RdCrossing && len(r.Points) > 2:
+		return api.ErrArg
+	}
+	return api.OK
+}
+
+// treeError returns the error of a tree.
+func treeError(_ []api.RdTree, t *api.RdTree) api.Errno {
+	if !arePlaces([2]int{t.X, t.Y}) || !whole.IsFrom(t.R, 1, api.MaxRdCrown) || !areHeights(t.Low, t.High) {
+		return api.ErrRange
+	}
+	return api.OK
+}
+
+// frontError returns the first error of a front.
+func frontError(_ []api.RdFront, f *api.RdFront) api.Errno {
+	switch {
+	case !arePlaces(f.A, f.B):
+		return api.ErrRange
+	case f.A == f.B:
+		return api.ErrArg
+	case len(f.Windows) > api.MaxRdWindows:
+		return api.ErrLong
+	case !areWindows(f.Windows):
+		return api.ErrRange
+	}
+	return api.OK
+}
+
+// columnError returns the first error of a column.
+func columnError(before []api.RdColumn, c *api.RdColumn) api.Errno {
+	switch {
+	case !words.IsName(c.Name):
+		return api.ErrForm
+	case slices.ContainsFunc(before, func(other api.RdColumn) bool { return other.Name == c.Name }):
+		return api.ErrTwice
+	case !arePlaces([2]int{c.X, c.Y}) || !whole.IsFrom(c.Height, 1, api.MaxRdHeight) || !isHeading(c.DX) || !isHeading(c.DY):
+		return api.ErrRange
+	case c.DX == 0 && c.DY == 0:
+		return api.ErrArg
+	}
+	return api.OK
+}
+
+func hasEmptyPiece(r *api.RdRoad) bool {
+	for from, to := range pieces(r) {
+		if from == to {
+			return true
+		}
+	}
+	return false
+}
+
+func areWindows(windows []api.RdWindow) bool {
+	for _, w := range windows {
+		if !areEnds(w.From, w.To, api.All) || !areHeights(w.Low, w.High) {
+			return false
+		}
+	}
+	return true
+}
+
+func areHeights(low, high int) bool { return areEnds(low, high, api.MaxRdTall) }
+
+// areEnds reports whether two numbers ascend, from 0 to most.
+func areEnds(low, high, most int) bool { return 0 <= low && low < high && high <= most }
+
+func isHeading(n int) bool { return whole.IsFrom(n, -api.MaxRdHeading, api.MaxRdHeading) }
+
+func arePlaces(places ...[2]int) bool {
+	for _, p := range places {
+		if !isCoordinate(p[0]) || !isCoordinate(p[1]) {
+			return false
+		}
+	}
+	return true
+}
+
+func isCoordinate(n int) bool { return whole.IsFrom(n, -api.MaxRdPlace, api.MaxRdPlace) }
+
+// isPatch reports whether a patch has points, and only places.
+func isPatch(p api.RdPatch) bool {
+	return arePlaces([2]int{p.X0, p.Y0}, [2]int{p.X1, p.Y1}) && p.X0 <= p.X1 && p.Y0 <= p.Y1
+}
+
+// errorOf returns the error of a scene, or of an index of a list of its, which has so many elements.
+func errorOf(s api.RdScene, index, count int) api.Errno {
+	if _, _, e := Check(s); e != api.OK {
+		return e
+	}
+	if !isIndex(index, count) {
+		return api.ErrNone
+	}
+	return api.OK
+}
+
+// patchError returns the error of a scene, of an index, or of a patch.
+func patchError(s api.RdScene, index, count int, p api.RdPatch) api.Errno {
+	if e := errorOf(s, index, count); e != api.OK {
+		return e
+	}
+	if !isPatch(p) {
+		return api.ErrRange
+	}
+	return api.OK
+}
+
+func isIndex(index, count int) bool { return whole.IsFrom(index, 0, count-1) }
