@@ -4,6 +4,7 @@ import (
 	"slices"
 
 	"linkboy/api"
+	"linkboy/plane"
 	"linkboy/whole"
 	"linkboy/words"
 )
@@ -60,7 +61,7 @@ func roadError(before []api.RdRoad, r *api.RdRoad) api.Errno {
 		return api.ErrNone
 	case len(r.Points) > api.MaxRdPoints:
 		return api.ErrLong
-	case !arePlaces(r.Points...) || !whole.IsFrom(r.Width, api.MinRdWidth, api.MaxRdWidth):
+	case !plane.ArePlaces(r.Points...) || !whole.IsFrom(r.Width, api.MinRdWidth, api.MaxRdWidth):
 		return api.ErrRange
 	case hasEmptyPiece(r) || r.Kind == api.RdCrossing && len(r.Points) > 2:
 		return api.ErrArg
@@ -70,7 +71,7 @@ func roadError(before []api.RdRoad, r *api.RdRoad) api.Errno {
 
 // treeError returns the error of a tree.
 func treeError(_ []api.RdTree, t *api.RdTree) api.Errno {
-	if !arePlaces([2]int{t.X, t.Y}) || !whole.IsFrom(t.R, 1, api.MaxRdCrown) || !areHeights(t.Low, t.High) {
+	if !plane.ArePlaces([2]int{t.X, t.Y}) || !whole.IsFrom(t.R, 1, api.MaxRdCrown) || !areHeights(t.Low, t.High) {
 		return api.ErrRange
 	}
 	return api.OK
@@ -79,7 +80,7 @@ func treeError(_ []api.RdTree, t *api.RdTree) api.Errno {
 // frontError returns the first error of a front.
 func frontError(_ []api.RdFront, f *api.RdFront) api.Errno {
 	switch {
-	case !arePlaces(f.A, f.B):
+	case !plane.ArePlaces(f.A, f.B):
 		return api.ErrRange
 	case f.A == f.B:
 		return api.ErrArg
@@ -98,7 +99,7 @@ func columnError(before []api.RdColumn, c *api.RdColumn) api.Errno {
 		return api.ErrForm
 	case slices.ContainsFunc(before, func(other api.RdColumn) bool { return other.Name == c.Name }):
 		return api.ErrTwice
-	case !arePlaces([2]int{c.X, c.Y}) || !whole.IsFrom(c.Height, 1, api.MaxRdHeight) || !isHeading(c.DX) || !isHeading(c.DY):
+	case !plane.ArePlaces([2]int{c.X, c.Y}) || !whole.IsFrom(c.Height, 1, api.MaxRdHeight) || !plane.IsHeading(c.DX) || !plane.IsHeading(c.DY):
 		return api.ErrRange
 	case c.DX == 0 && c.DY == 0:
 		return api.ErrArg
@@ -129,24 +130,6 @@ func areHeights(low, high int) bool { return areEnds(low, high, api.MaxRdTall) }
 // areEnds reports whether two numbers ascend, from 0 to most.
 func areEnds(low, high, most int) bool { return 0 <= low && low < high && high <= most }
 
-func isHeading(n int) bool { return whole.IsFrom(n, -api.MaxRdHeading, api.MaxRdHeading) }
-
-func arePlaces(places ...[2]int) bool {
-	for _, p := range places {
-		if !isCoordinate(p[0]) || !isCoordinate(p[1]) {
-			return false
-		}
-	}
-	return true
-}
-
-func isCoordinate(n int) bool { return whole.IsFrom(n, -api.MaxRdPlace, api.MaxRdPlace) }
-
-// isPatch reports whether a patch has points, and only places.
-func isPatch(p api.RdPatch) bool {
-	return arePlaces([2]int{p.X0, p.Y0}, [2]int{p.X1, p.Y1}) && p.X0 <= p.X1 && p.Y0 <= p.Y1
-}
-
 // errorOf returns the error of a scene, or of an index of a list of its, which has so many elements.
 func errorOf(s api.RdScene, index, count int) api.Errno {
 	if _, _, e := Check(s); e != api.OK {
@@ -163,7 +146,7 @@ func patchError(s api.RdScene, index, count int, p api.RdPatch) api.Errno {
 	if e := errorOf(s, index, count); e != api.OK {
 		return e
 	}
-	if !isPatch(p) {
+	if !plane.IsPatch(p) {
 		return api.ErrRange
 	}
 	return api.OK

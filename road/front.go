@@ -2,6 +2,7 @@ package road
 
 import (
 	"linkboy/api"
+	"linkboy/plane"
 	"linkboy/whole"
 )
 
@@ -14,8 +15,8 @@ func Faces(s api.RdScene, column, front int) (bool, api.Errno) {
 		return false, api.ErrNone
 	}
 	f, c := &s.Fronts[front], &s.Columns[column]
-	a, b := placeOf(f.A), placeOf(f.B)
-	return b.minus(a).cross(vector{c.X, c.Y}.minus(a)) > 0, api.OK
+	a, b := plane.Of(f.A), plane.Of(f.B)
+	return b.Minus(a).Cross(plane.Vector{X: c.X, Y: c.Y}.Minus(a)) > 0, api.OK
 }
 
 // Window returns a box that contains a window.

@@ -5,6 +5,7 @@ import (
 	"slices"
 
 	"linkboy/api"
+	"linkboy/plane"
 )
 
 // Standing returns the columns that stand where vehicles go.
@@ -15,7 +16,7 @@ func Standing(s api.RdScene) ([]int, api.Errno) {
 	var standing []int
 	for at := range s.Columns {
 		c := &s.Columns[at]
-		if isInTheWay(s.Roads, vector{c.X, c.Y}) {
+		if isInTheWay(s.Roads, plane.Vector{X: c.X, Y: c.Y}) {
 			standing = append(standing, at)
 		}
 	}
@@ -23,9 +24,9 @@ func Standing(s api.RdScene) ([]int, api.Errno) {
 }
 
 // isInTheWay reports whether a place is on a road that is not for walkers alone.
-func isInTheWay(roads []api.RdRoad, place vector) bool {
+func isInTheWay(roads []api.RdRoad, place plane.Vector) bool {
 	for i := range roads {
-		if r := &roads[i]; r.Kind != api.RdFoot && isOn(r, patchOf(place)) {
+		if r := &roads[i]; r.Kind != api.RdFoot && isOn(r, plane.PatchOf(place)) {
 			return true
 		}
 	}
@@ -70,10 +71,10 @@ func Bends(s api.RdScene, road int) ([]int, api.Errno) {
 		return nil, e
 	}
 	var bends []int
-	at, before := 0, vector{}
+	at, before := 0, plane.Vector{}
 	for from, to := range pieces(&s.Roads[road]) {
-		after := to.minus(from)
-		if at > 0 && before.dot(after) <= 0 {
+		after := to.Minus(from)
+		if at > 0 && before.Dot(after) <= 0 {
 			bends = append(bends, at)
 		}
 		at, before = at+1, after

@@ -8,13 +8,14 @@ import (
 	"testing"
 
 	"linkboy/api"
+	"linkboy/plane"
 )
 
 // crowded returns a scene with roads, trees and columns near each other, and a patch of some points among them.
 func crowded(r *rand.Rand) (api.RdScene, api.RdPatch) {
 	s := randomScene(r, 200)
 	s.Roads = append(s.Roads, randomRoad(r, 200, 8))
-	p := patchOf(vector{within(r, 190), within(r, 190)})
+	p := plane.PatchOf(plane.Vector{X: within(r, 190), Y: within(r, 190)})
 	p.X1 += r.Intn(25)
 	p.Y1 += r.Intn(25)
 	return s, p

@@ -1,10 +1,13 @@
 package road
 
-import "linkboy/api"
+import (
+	"linkboy/api"
+	"linkboy/plane"
+)
 
 // Shaded returns the first tree that shades a point from a lamp.
 func Shaded(s api.RdScene, column, x, y int) (tree int, e api.Errno) {
-	p := patchOf(vector{x, y})
+	p := plane.PatchOf(plane.Vector{X: x, Y: y})
 	if e := patchError(s, column, len(s.Columns), p); e != api.OK {
 		return 0, e
 	}

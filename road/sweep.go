@@ -1,6 +1,9 @@
 package road
 
-import "linkboy/api"
+import (
+	"linkboy/api"
+	"linkboy/plane"
+)
 
 // sweep is a rectangle that goes straight from one place to another one, where it may have another size: each corner goes on a straight line. Strips and shadows are sets of points of a patch that pass the origin within a reach: a strip's patch is seen from a point that goes along the piece, a shadow's from the axis of the tree while it shrinks to the lamp.
 type sweep struct {
@@ -10,8 +13,8 @@ type sweep struct {
 
 // reachesAll reports whether each point of the rectangle passes the origin within the reach. Its corners decide, because the points that do are a convex set.
 func (w sweep) reachesAll() bool {
-	to := corners(w.to)
-	for i, from := range corners(w.from) {
+	to := plane.Corners(w.to)
+	for i, from := range plane.Corners(w.from) {
 		if !isNear(from, to[i], w.reach) {
 			return false
 		}
@@ -27,10 +30,10 @@ func (w sweep) reachesSome() bool {
 	if hasOrigin(w.from) {
 		return true
 	}
-	from, to := corners(w.from), corners(w.to)
+	from, to := plane.Corners(w.from), plane.Corners(w.to)
 	for i := range from {
 		next := (i + 1) % len(from)
-		if isFaceNear([4]vector{from[i], from[next], to[next], to[i]}, w.reach) {
+		if isFaceNear([4]plane.Vector{from[i], from[next], to[next], to[i]}, w.reach) {
 			return true
 		}
 	}
@@ -48,7 +51,7 @@ func hasOrigin(p api.RdPatch) bool {
 }
 
 // isFaceNear reports whether the origin is no farther than reach from a convex face.
-func isFaceNear(face [4]vector, reach int) bool {
+func isFaceNear(face [4]plane.Vector, reach int) bool {
 	for i, a := range face {
 		if isNear(a, face[(i+1)%len(face)], reach) {
 			return true
@@ -58,13 +61,13 @@ func isFaceNear(face [4]vector, reach int) bool {
 }
 
 // strip returns how a patch passes a point that goes along a piece of a road, in half mm, as half of the width may be none.
-func strip(r *api.RdRoad, from, to vector, p api.RdPatch) sweep {
+func strip(r *api.RdRoad, from, to plane.Vector, p api.RdPatch) sweep {
 	return sweep{from: twiceFrom(p, from), to: twiceFrom(p, to), reach: r.Width}
 }
 
 // twiceFrom returns a patch as it is seen from a place, in half mm.
-func twiceFrom(p api.RdPatch, place vector) api.RdPatch {
-	return api.RdPatch{X0: 2 * (p.X0 - place.x), Y0: 2 * (p.Y0 - place.y), X1: 2 * (p.X1 - place.x), Y1: 2 * (p.Y1 - place.y)}
+func twiceFrom(p api.RdPatch, place plane.Vector) api.RdPatch {
+	return api.RdPatch{X0: 2 * (p.X0 - place.X), Y0: 2 * (p.Y0 - place.Y), X1: 2 * (p.X1 - place.X), Y1: 2 * (p.Y1 - place.Y)}
 }
 
 // beam returns how the light from a lamp to a patch passes the axis of a tree on its way through the heights of the crown, or that all of it is below the crown. Its unit is a mm, divided by the height of the lamp, in which all of its rectangles are exact.
