@@ -37,7 +37,7 @@ func errorOf(c api.LmCatalog, index, count int) api.Errno {
 	if _, _, e := Check(c); e != api.OK {
 		return e
 	}
-	if !whole.IsFrom(index, 0, count-1) {
+	if !whole.IsIndex(index, count) {
 		return api.ErrNone
 	}
 	return api.OK
@@ -73,7 +73,7 @@ func lampError(c api.LmCatalog, at int) api.Errno {
 		return api.ErrForm
 	case lampOf(c.Lamps, l.Name) < at:
 		return api.ErrTwice
-	case !whole.IsFrom(l.Table, 0, len(c.Tables)-1):
+	case !whole.IsIndex(l.Table, len(c.Tables)):
 		return api.ErrNone
 	case !whole.IsFrom(l.Kind, api.LmLed, api.LmMetal):
 		return api.ErrArg

@@ -50,7 +50,7 @@ func surfaceError(s api.LtScene) api.Errno {
 	if s.Surface == -1 {
 		return api.OK
 	}
-	if !whole.IsFrom(s.Surface, 0, len(s.Catalog.Tables)-1) {
+	if !whole.IsIndex(s.Surface, len(s.Catalog.Tables)) {
 		return api.ErrNone
 	}
 	// A surface sends no light to the sky.

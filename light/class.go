@@ -1,8 +1,6 @@
 package light
 
 import (
-	"slices"
-
 	"linkboy/api"
 	"linkboy/plane"
 	"linkboy/road"
@@ -39,7 +37,7 @@ func Accept(s api.LtScene, road int, c api.LtClass) (bool, api.Errno) {
 // classError returns the first error of a road, or of a class, in a scene.
 func classError(s api.LtScene, road int, c api.LtClass) api.Errno {
 	switch {
-	case !whole.IsFrom(road, 0, len(s.Road.Roads)-1):
+	case !whole.IsIndex(road, len(s.Road.Roads)):
 		return api.ErrNone
 	case c.Kind != api.LtLux && c.Kind != api.LtBright:
 		return api.ErrArg
@@ -62,13 +60,7 @@ func areAsked(c api.LtClass) bool {
 // patchesOf returns the patches of a road: what squares that cover it have of the places there are.
 func patchesOf(s api.RdScene, index, step int) ([]api.RdPatch, api.Errno) {
 	patches, e := road.Patches(s, index, step)
-	for i, p := range patches {
-		patches[i] = api.RdPatch{
-			X0: max(p.X0, -api.MaxRdPlace), Y0: max(p.Y0, -api.MaxRdPlace),
-			X1: min(p.X1, api.MaxRdPlace), Y1: min(p.Y1, api.MaxRdPlace),
-		}
-	}
-	return slices.DeleteFunc(patches, func(p api.RdPatch) bool { return !plane.IsPatch(p) }), e
+	return plane.Cut(patches), e
 }
 
 // judged returns the light on all patches of a road, of which there is at least one.

@@ -46,6 +46,18 @@ func IsPatch(p api.RdPatch) bool {
 	return ArePlaces([2]int{p.X0, p.Y0}, [2]int{p.X1, p.Y1}) && p.X0 <= p.X1 && p.Y0 <= p.Y1
 }
 
+// Cut returns what some patches have of the places there are; those that have none are left out.
+func Cut(patches []api.RdPatch) []api.RdPatch {
+	var all []api.RdPatch
+	for _, p := range patches {
+		p = api.RdPatch{X0: max(p.X0, -api.MaxRdPlace), Y0: max(p.Y0, -api.MaxRdPlace), X1: min(p.X1, api.MaxRdPlace), Y1: min(p.Y1, api.MaxRdPlace)}
+		if IsPatch(p) {
+			all = append(all, p)
+		}
+	}
+	return all
+}
+
 // IsHeading reports whether a number is one of a direction.
 func IsHeading(n int) bool { return whole.IsFrom(n, -api.MaxRdHeading, api.MaxRdHeading) }
 

@@ -2,6 +2,7 @@ package plane
 
 import (
 	"math"
+	"slices"
 	"testing"
 
 	"linkboy/api"
@@ -55,5 +56,20 @@ func TestPlacesAndDirections(t *testing.T) {
 	}
 	if !ArePlaces() {
 		t.Error("a place of no list is not in its range")
+	}
+}
+
+func TestCut(t *testing.T) {
+	patches := []api.RdPatch{
+		{X0: -100001, Y0: -100002, X1: -99999, Y1: -99998}, {X0: 1, Y0: 2, X1: 3, Y1: 4}, {X0: -100003, Y0: 0, X1: -100001, Y1: 5}, {X0: 100000, Y0: 99999, X1: 100001, Y1: 100002},
+		{X0: 100001, Y0: 0, X1: 100002, Y1: 5}, {X0: 0, Y0: 100001, X1: 5, Y1: 100002}, {X0: 0, Y0: -100002, X1: 5, Y1: -100001},
+	}
+	argument := slices.Clone(patches)
+	want := []api.RdPatch{{X0: -100000, Y0: -100000, X1: -99999, Y1: -99998}, {X0: 1, Y0: 2, X1: 3, Y1: 4}, {X0: 100000, Y0: 99999, X1: 100000, Y1: 100000}}
+	if got := Cut(argument); !slices.Equal(got, want) || !slices.Equal(argument, patches) {
+		t.Errorf("Cut = %v", got)
+	}
+	if got := Cut(nil); len(got) != 0 {
+		t.Errorf("Cut of no patches = %v", got)
 	}
 }

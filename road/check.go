@@ -4,6 +4,7 @@ import (
 	"slices"
 
 	"linkboy/api"
+	"linkboy/parts"
 	"linkboy/plane"
 	"linkboy/whole"
 	"linkboy/words"
@@ -23,29 +24,19 @@ func Check(s api.RdScene) (part, at int, e api.Errno) {
 	if len(s.Roads) > api.MaxRdRoads || len(s.Trees) > api.MaxRdTrees || len(s.Fronts) > api.MaxRdFronts || len(s.Columns) > api.MaxRdColumns {
 		return partAll, 0, api.ErrLong
 	}
-	if at, e := firstError(s.Roads, roadError); e != api.OK {
+	if at, e := parts.FirstError(s.Roads, roadError); e != api.OK {
 		return partRoads, at, e
 	}
-	if at, e := firstError(s.Trees, treeError); e != api.OK {
+	if at, e := parts.FirstError(s.Trees, treeError); e != api.OK {
 		return partTrees, at, e
 	}
-	if at, e := firstError(s.Fronts, frontError); e != api.OK {
+	if at, e := parts.FirstError(s.Fronts, frontError); e != api.OK {
 		return partFronts, at, e
 	}
-	if at, e := firstError(s.Columns, columnError); e != api.OK {
+	if at, e := parts.FirstError(s.Columns, columnError); e != api.OK {
 		return partColumns, at, e
 	}
 	return 0, 0, api.OK
-}
-
-// firstError returns the index of the first thing of a list that has an error, and this error. Whether there is one may depend on the things before.
-func firstError[T any](things []T, errorOf func(before []T, thing *T) api.Errno) (at int, e api.Errno) {
-	for at := range things {
-		if e := errorOf(things[:at], &things[at]); e != api.OK {
-			return at, e
-		}
-	}
-	return 0, api.OK
 }
 
 // roadError returns the first error of a road.
@@ -135,7 +126,7 @@ func errorOf(s api.RdScene, index, count int) api.Errno {
 	if _, _, e := Check(s); e != api.OK {
 		return e
 	}
-	if !isIndex(index, count) {
+	if !whole.IsIndex(index, count) {
 		return api.ErrNone
 	}
 	return api.OK
@@ -151,5 +142,3 @@ func patchError(s api.RdScene, index, count int, p api.RdPatch) api.Errno {
 	}
 	return api.OK
 }
-
-func isIndex(index, count int) bool { return whole.IsFrom(index, 0, count-1) }

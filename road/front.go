@@ -11,7 +11,7 @@ func Faces(s api.RdScene, column, front int) (bool, api.Errno) {
 	if e := errorOf(s, column, len(s.Columns)); e != api.OK {
 		return false, e
 	}
-	if !isIndex(front, len(s.Fronts)) {
+	if !whole.IsIndex(front, len(s.Fronts)) {
 		return false, api.ErrNone
 	}
 	f, c := &s.Fronts[front], &s.Columns[column]
@@ -25,7 +25,7 @@ func Window(s api.RdScene, front, window int) (api.RdBox, api.Errno) {
 		return api.RdBox{}, e
 	}
 	f := &s.Fronts[front]
-	if !isIndex(window, len(f.Windows)) {
+	if !whole.IsIndex(window, len(f.Windows)) {
 		return api.RdBox{}, api.ErrNone
 	}
 	w := f.Windows[window]

@@ -28,6 +28,9 @@ func Up(a, b int) int {
 // IsFrom reports whether a number is from least to most.
 func IsFrom(n, least, most int) bool { return least <= n && n <= most }
 
+// IsIndex reports whether a number is the index of something in a list that has so many elements.
+func IsIndex(n, count int) bool { return IsFrom(n, 0, count-1) }
+
 // AreFrom reports whether all numbers of a list are from least to most.
 func AreFrom(numbers []int, least, most int) bool {
 	for _, n := range numbers {

@@ -57,6 +57,14 @@ func TestRanges(t *testing.T) {
 			t.Errorf("AreFrom with %d = %v", c.n, got)
 		}
 	}
+	for _, n := range []int{-1, 0, 2, 3, math.MinInt, math.MaxInt} {
+		if got := IsIndex(n, 3); got != (n == 0 || n == 2) {
+			t.Errorf("IsIndex(%d, 3) = %v", n, got)
+		}
+	}
+	if IsIndex(0, 0) || IsIndex(-1, 0) {
+		t.Error("an empty list has an index")
+	}
 	if !AreFrom(nil, 1, 0) {
 		t.Error("a number of no list is not in the range")
 	}
