@@ -17,9 +17,7 @@ func Share(c api.LmCatalog, table, split int) (api.Encl, api.Errno) {
 	t := c.Tables[table]
 	for i := range len(t.Us) - 1 {
 		for k := range len(t.Vs) - 1 {
-			x := fieldShare(t, i, k, split)
-			millionths.Lo += x.Lo
-			millionths.Hi += x.Hi
+			millionths = whole.Add(millionths, fieldShare(t, i, k, split))
 		}
 	}
 	return api.Encl{Lo: whole.Down(millionths.Lo, api.All), Hi: whole.Up(millionths.Hi, api.All)}, api.OK
@@ -32,9 +30,7 @@ func fieldShare(t api.LmTable, i, k, split int) (sum api.Encl) {
 	for a := range split {
 		across := partOf(t.Us, i, a, split)
 		for b := range split {
-			x := partShare(values, across, partOf(t.Vs, k, b, split))
-			sum.Lo += x.Lo
-			sum.Hi += x.Hi
+			sum = whole.Add(sum, partShare(values, across, partOf(t.Vs, k, b, split)))
 		}
 	}
 	return sum

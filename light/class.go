@@ -96,8 +96,7 @@ func valueOf(s api.LtScene, p api.RdPatch, c api.LtClass) api.Encl {
 func average(values []api.Encl) api.Encl {
 	var all api.Encl
 	for _, x := range values {
-		all.Lo += x.Lo
-		all.Hi += x.Hi
+		all = whole.Add(all, x)
 	}
 	return api.Encl{Lo: down.quotient(all.Lo, len(values)), Hi: up.quotient(all.Hi, len(values))}
 }

@@ -47,9 +47,7 @@ func luminaireAt(s api.LtScene, at int) luminaire {
 // sum adds up, end by end, what one adds for each column with a lamp.
 func sum(s api.LtScene, one func(l luminaire) api.Encl) (all api.Encl) {
 	for l := range luminaires(s) {
-		x := one(l)
-		all.Lo += x.Lo
-		all.Hi += x.Hi
+		all = whole.Add(all, one(l))
 	}
 	return all
 }

@@ -1,13 +1,10 @@
 package road
 
 import (
-	"slices"
-
 	"linkboy/api"
 	"linkboy/parts"
 	"linkboy/plane"
 	"linkboy/whole"
-	"linkboy/words"
 )
 
 // Parts of a scene in which Check finds an error.
@@ -24,7 +21,7 @@ func Check(s api.RdScene) (part, at int, e api.Errno) {
 	if len(s.Roads) > api.MaxRdRoads || len(s.Trees) > api.MaxRdTrees || len(s.Fronts) > api.MaxRdFronts || len(s.Columns) > api.MaxRdColumns {
 		return partAll, 0, api.ErrLong
 	}
-	if at, e := parts.FirstError(s.Roads, roadError); e != api.OK {
+	if at, e := parts.FirstNamedError(s.Roads, roadName, roadError); e != api.OK {
 		return partRoads, at, e
 	}
 	if at, e := parts.FirstError(s.Trees, treeError); e != api.OK {
@@ -33,19 +30,19 @@ func Check(s api.RdScene) (part, at int, e api.Errno) {
 	if at, e := parts.FirstError(s.Fronts, frontError); e != api.OK {
 		return partFronts, at, e
 	}
-	if at, e := parts.FirstError(s.Columns, columnError); e != api.OK {
+	if at, e := parts.FirstNamedError(s.Columns, columnName, columnError); e != api.OK {
 		return partColumns, at, e
 	}
 	return 0, 0, api.OK
 }
 
-// roadError returns the first error of a road.
-func roadError(before []api.RdRoad, r *api.RdRoad) api.Errno {
+func roadName(r *api.RdRoad) string { return r.Name }
+
+func columnName(c *api.RdColumn) string { return c.Name }
+
+// roadError returns the first error of a road, but for its name.
+func roadError(_ []api.RdRoad, r *api.RdRoad) api.Errno {
 	switch {
-	case !words.IsName(r.Name):
-		return api.ErrForm
-	case slices.ContainsFunc(before, func(other api.RdRoad) bool { return other.Name == r.Name }):
-		return api.ErrTwice
 	case !whole.IsFrom(r.Kind, api.RdCarriage, api.RdCrossing):
 		return api.ErrArg
 	case len(r.Points) < 2:
@@ -83,13 +80,9 @@ func frontError(_ []api.RdFront, f *api.RdFront) api.Errno {
 	return api.OK
 }
 
-// columnError returns the first error of a column.
-func columnError(before []api.RdColumn, c *api.RdColumn) api.Errno {
+// columnError returns the first error of a column, but for its name.
+func columnError(_ []api.RdColumn, c *api.RdColumn) api.Errno {
 	switch {
-	case !words.IsName(c.Name):
-		return api.ErrForm
-	case slices.ContainsFunc(before, func(other api.RdColumn) bool { return other.Name == c.Name }):
-		return api.ErrTwice
 	case !plane.ArePlaces([2]int{c.X, c.Y}) || !whole.IsFrom(c.Height, 1, api.MaxRdHeight) || !plane.IsHeading(c.DX) || !plane.IsHeading(c.DY):
 		return api.ErrRange
 	case c.DX == 0 && c.DY == 0:

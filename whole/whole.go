@@ -53,6 +53,9 @@ func Join(all api.Encl, others ...api.Encl) api.Encl {
 	return all
 }
 
+// Add returns the sum of two enclosures, end by end.
+func Add(x, y api.Encl) api.Encl { return api.Encl{Lo: x.Lo + y.Lo, Hi: x.Hi + y.Hi} }
+
 // IsWithin reports whether an enclosure is valid and has only numbers from least to most.
 func IsWithin(x api.Encl, least, most int) bool {
 	return least <= x.Lo && x.Lo <= x.Hi && x.Hi <= most

@@ -35,6 +35,9 @@ func TestEnclosures(t *testing.T) {
 	if x := Join(Only(3)); x != (api.Encl{Lo: 3, Hi: 3}) {
 		t.Errorf("Join = %v", x)
 	}
+	if x := Add(api.Encl{Lo: 3, Hi: 5}, api.Encl{Lo: -4, Hi: 90}); x != (api.Encl{Lo: -1, Hi: 95}) {
+		t.Errorf("Add = %v", x)
+	}
 	for _, c := range []struct {
 		lo, hi int
 		want   bool
