@@ -66,18 +66,13 @@ func (n net) drop(node, phase int) int {
 // core returns the resistance of a core of the cable to a node.
 func core(f *api.FeFeeder, node int) api.Encl {
 	n := &f.Nodes[node]
-	return along(f.Cables[n.Cable].Core, n.Length)
+	return whole.Multiple(f.Cables[n.Cable].Core, n.Length)
 }
 
 // earth returns the resistance of the earth of the cable to a node.
 func earth(f *api.FeFeeder, node int) api.Encl {
 	n := &f.Nodes[node]
-	return along(f.Cables[n.Cable].Earth, n.Length)
-}
-
-// along returns the resistance of a length of something with a resistance for each metre.
-func along(ofMetre api.Encl, length int) api.Encl {
-	return api.Encl{Lo: ofMetre.Lo * length, Hi: ofMetre.Hi * length}
+	return whole.Multiple(f.Cables[n.Cable].Earth, n.Length)
 }
 
 // faultCurrent returns the current of a fault at a node, which goes back by the earth, or by the neutral.

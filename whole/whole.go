@@ -56,6 +56,12 @@ func Join(all api.Encl, others ...api.Encl) api.Encl {
 // Add returns the sum of two enclosures, end by end.
 func Add(x, y api.Encl) api.Encl { return api.Encl{Lo: x.Lo + y.Lo, Hi: x.Hi + y.Hi} }
 
+// Less returns the enclosure of all differences, of a number in x less one in y.
+func Less(x, y api.Encl) api.Encl { return api.Encl{Lo: x.Lo - y.Hi, Hi: x.Hi - y.Lo} }
+
+// Multiple returns n times an enclosure, end by end; n is not below 0.
+func Multiple(x api.Encl, n int) api.Encl { return api.Encl{Lo: n * x.Lo, Hi: n * x.Hi} }
+
 // IsWithin reports whether an enclosure is valid and has only numbers from least to most.
 func IsWithin(x api.Encl, least, most int) bool {
 	return least <= x.Lo && x.Lo <= x.Hi && x.Hi <= most

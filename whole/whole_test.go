@@ -38,6 +38,12 @@ func TestEnclosures(t *testing.T) {
 	if x := Add(api.Encl{Lo: 3, Hi: 5}, api.Encl{Lo: -4, Hi: 90}); x != (api.Encl{Lo: -1, Hi: 95}) {
 		t.Errorf("Add = %v", x)
 	}
+	if x := Less(api.Encl{Lo: 3, Hi: 5}, api.Encl{Lo: -4, Hi: 90}); x != (api.Encl{Lo: -87, Hi: 9}) {
+		t.Errorf("Less = %v", x)
+	}
+	if x := Multiple(api.Encl{Lo: -3, Hi: 5}, 4); x != (api.Encl{Lo: -12, Hi: 20}) {
+		t.Errorf("Multiple = %v", x)
+	}
 	for _, c := range []struct {
 		lo, hi int
 		want   bool
